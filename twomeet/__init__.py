@@ -1,0 +1,1 @@
+"""Twomeet: kinds told in part, written into a small core."""
