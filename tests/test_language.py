@@ -146,6 +146,18 @@ def use_faults(node):
     return []
 
 
+def shadow_faults(tree):
+    """Parameters and locals that are called like a class or an import of their file."""
+    kept = [node.name for node in tree.body if isinstance(node, ast.ClassDef)]
+    kept += [alias.name for node in tree.body if isinstance(node, ast.ImportFrom) for alias in node.names]
+    found = []
+    for node in [one for top in tree.body if not isinstance(top, ast.Assign) for one in ast.walk(top)]:
+        text = node.arg if isinstance(node, ast.arg) else getattr(node, "id", None)
+        if text in kept and not isinstance(getattr(node, "ctx", None), ast.Load):
+            found.append(("L15", node.lineno))
+    return found
+
+
 def method_faults(tree, own):
     """Methods that are called, but neither the program's own nor those of L25."""
     called = [node.func for node in ast.walk(tree) if isinstance(node, ast.Call)]
@@ -164,6 +176,7 @@ def faults(text, own=()):
     """The rules that a file's text breaks, with the lines."""
     tree = ast.parse(text)
     found = size_faults(text) + top_faults(tree) + method_faults(tree, list(own) + methods_of(tree))
+    found += shadow_faults(tree)
     inner = [one for node in ast.walk(tree) for one in ast.iter_child_nodes(node) if not isinstance(node, ast.Module)]
     found += [("L2", one.lineno) for one in inner if isinstance(one, (ast.Import, ast.ImportFrom))]
     found += [("L15", one.lineno) for one in inner if isinstance(one, ast.ClassDef)]
@@ -226,6 +239,16 @@ class PackageTest(unittest.TestCase):
             self.assertNotEqual(free, [], "these draw from one another: " + ", ".join(sorted(left)))
             left = dict([(file, left[file]) for file in left if file not in free])
 
+    def test_no_name_is_a_method_in_one_class_and_a_value_in_another(self):
+        methods = [name for file in files() for name in methods_of(ast.parse(text_of(file)))]
+        stored = [node.attr for file in files() for node in ast.walk(ast.parse(text_of(file)))
+                  if isinstance(node, ast.Attribute) and isinstance(node.ctx, ast.Store)]
+        self.assertIn("place", stored)
+        self.assertEqual([name for name in stored if name in methods], [])
+        for name in stored + [name for name in methods if name not in DUNDERS]:
+            for own in ("", 0, [], {}, set(), b""):
+                self.assertFalse(hasattr(own, name), name)
+
     def test_the_init_file_binds_no_name_that_a_file_has(self):
         for file in files():
             for name in defined_in(file) if file != "__init__.py" else []:
@@ -251,7 +274,9 @@ class FaultsTest(unittest.TestCase):
             ("L10", "x = [\n" + "1,\n" * 400 + "]"), ("L10", "def f():\n" + "    f()\n" * 40),
             ("L12", "def f(_a):\n    return _a"), ("L12", "def f(a):\n    return a.__class__"),
             ("L14", "# \u00e4"), ("L14", "x\t= 1"), ("L15", "x = 1\nx = 2"),
-            ("L15", "def f(id):\n    return id"), ("L17", "# a type"), ("L17", "def f(a):\n    return open(a)"),
+            ("L15", "def f(id):\n    return id"), ("L15", "from twomeet.kinds import met\n\ndef f(met):\n    return met"),
+            ("L15", "class A:\n    pass\n\ndef f(a):\n    A = a\n    return A"),
+            ("L17", "# a type"), ("L17", "def f(a):\n    return open(a)"),
             ("L19", "def f():\n    try:\n        f()\n    except Exception:\n        pass"),
             ("L20", "def f(a, b):\n    return a is b"), ("L25", "def f(a):\n    a.sort()"),
             ("L27", "def f(a):\n    return 2 ** a"), ("L27", "x = '%'"),

@@ -1,5 +1,8 @@
 """Kinds: filling their names, listing them, and meeting a kind with a pattern."""
 
+NUMBER = ("number",)
+TRUTH = ("truth",)
+
 
 def parts(kind):
     """The kinds straight within a kind, from the left."""
@@ -10,7 +13,17 @@ def parts(kind):
 
 def filled(kind, filling):
     """The kind with others in the place of its names, by a dict from names; other names stay."""
-    if kind[0] == "any":
+    return replaced(kind, "any", filling)
+
+
+def gaps_filled(kind, found):
+    """The kind with what was found in the place of its gaps, by a dict from their numbers; other gaps stay."""
+    return replaced(kind, "gap", found)
+
+
+def replaced(kind, word, filling):
+    """The kind with others in the place of the names or of the gaps, as the word says."""
+    if kind[0] == word:
         # What is put in is given back as it is: a name within it is not one of this kind's names.
         return filling.get(kind[1], kind)
     within = parts(kind)
@@ -18,8 +31,18 @@ def filled(kind, filling):
         return kind
     made = (kind[0],)
     for part in within:
-        made = made + (filled(part, filling),)
+        made = made + (replaced(part, word, filling),)
     return made
+
+
+def has_gaps(kind, found):
+    """Whether a gap is in the kind that was not found yet."""
+    if kind[0] == "gap":
+        return kind[1] not in found
+    for part in parts(kind):
+        if has_gaps(part, found):
+            return True
+    return False
 
 
 def names_in(kind):

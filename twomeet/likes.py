@@ -1,6 +1,6 @@
 """Likenesses: which kinds have one, and its core."""
 
-from twomeet.kinds import parts
+from twomeet.kinds import TRUTH, parts
 
 
 def unlikely(kind, needs):
@@ -25,3 +25,8 @@ def likeness(kind, given):
     if kind[0] == "pair":
         return ("likepair", likeness(kind[1], given), likeness(kind[2], given))
     return given[kind[1]]
+
+
+def likeness_kind(kind):
+    """The kind of a likeness of that kind."""
+    return ("work", kind, ("work", kind, TRUTH))
