@@ -7,7 +7,10 @@ from twomeet.walks import core_filled
 
 
 class Definition:
-    """What was told: the names of kinds, those that need a likeness, and the kind; and the core of the form."""
+    """What was told: the names of kinds, those that need a likeness, and the kind; and the core, with its own kind.
+
+    The core is that of the form, in funs of the likenesses that are needed, the first need's outermost.
+    """
 
     def __init__(self, free, needs, kind, core):
         # Lists of its own: those that were handed in may be changed behind the call.
@@ -15,6 +18,11 @@ class Definition:
         self.needs = list(needs)
         self.kind = kind
         self.core = core
+        self.whole_kind = kind
+        for need in reversed(self.needs):
+            granted = likeness_kind(("any", need))
+            self.core = ("fun", granted, self.core)
+            self.whole_kind = ("work", granted, self.whole_kind)
 
 
 def told_at(shelf, number, kinds):
@@ -28,18 +36,12 @@ def told_at(shelf, number, kinds):
 
 
 def kind_at(shelf, number, kinds):
-    """The kind of a definition's core at some kinds: a work of each likeness that it needs, and then its own."""
+    """The kind of a definition's core, with its names filled by the kinds."""
     definition = told_at(shelf, number, kinds)
-    kind = definition.kind
-    for need in reversed(definition.needs):
-        kind = ("work", likeness_kind(("any", need)), kind)
-    return filled(kind, dict(zip(definition.free, kinds)))
+    return filled(definition.whole_kind, dict(zip(definition.free, kinds)))
 
 
 def core_at(shelf, number, kinds):
-    """A definition's core at some kinds: its form's core in funs of the likenesses that it needs."""
+    """A definition's core, with its names filled by the kinds."""
     definition = told_at(shelf, number, kinds)
-    core = definition.core
-    for need in reversed(definition.needs):
-        core = ("fun", likeness_kind(("any", need)), core)
-    return core_filled(core, dict(zip(definition.free, kinds)))
+    return core_filled(definition.core, dict(zip(definition.free, kinds)))
